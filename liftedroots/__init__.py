@@ -1,0 +1,1 @@
+"""Roots lifted: a polynomial's roots modulo the powers of a prime."""

@@ -1,0 +1,67 @@
+"""Polynomials, told as a list of their numbers, that of the power 0 first, and their roots modulo powers."""
+
+
+def from_handed(handed):
+    if handed % 2 == 0:
+        return handed // 2
+    return -((handed + 1) // 2)
+
+
+def without_last_zeros(numbers):
+    kept = list(numbers)
+    while len(kept) > 0 and kept[-1] == 0:
+        kept.pop()
+    return kept
+
+
+def value_for(numbers, x):
+    total = 0
+    for number in reversed(numbers):
+        total = total * x + number
+    return total
+
+
+# Every power of the prime divides 0: whoever asks leaves it out, or this would never end.
+def times_divided(number, prime):
+    rest = number
+    times = 0
+    while rest % prime == 0:
+        rest = rest // prime
+        times = times + 1
+    return times
+
+
+def power_of(prime, k):
+    power = 1
+    for step in range(k):
+        power = power * prime
+    return power
+
+
+def is_root(numbers, power, x):
+    return 0 <= x < power and value_for(numbers, x) % power == 0
+
+
+def roots_gone_on_to(numbers, prime, power, x):
+    above = power * prime
+    return [y for y in range(x, above, power) if is_root(numbers, above, y)]
+
+
+# A root modulo the next power leaves, divided by this one, a root modulo this one: so none is missed.
+def roots_of_next_power(numbers, prime, power, roots):
+    found = []
+    for root in roots:
+        found.extend(roots_gone_on_to(numbers, prime, power, root))
+    return sorted(found)
+
+
+def roots_of_powers(numbers, prime, k):
+    # Modulo 1 there is the one root 0, whatever the polynomial is, and each root modulo p goes on from it.
+    roots = [0]
+    power = 1
+    lists = []
+    for step in range(k):
+        roots = roots_of_next_power(numbers, prime, power, roots)
+        power = power * prime
+        lists.append(roots)
+    return lists
