@@ -21,6 +21,35 @@ def value_for(numbers, x):
     return total
 
 
+def product(one, other):
+    # The polynomial 0 has no numbers, and so the count below, which is right for all others, isn't right for it.
+    if len(one) == 0 or len(other) == 0:
+        return []
+    numbers = [0] * (len(one) + len(other) - 1)
+    for i, left in enumerate(one):
+        for j, right in enumerate(other):
+            numbers[i + j] = numbers[i + j] + left * right
+    return numbers
+
+
+# As a value is reckoned from the last power down, but with the polynomial z + x in the place of a number.
+def moved(numbers, z):
+    found = []
+    for number in reversed(numbers):
+        found = plus_number(product(found, [z, 1]), number)
+    return found
+
+
+def plus_number(numbers, number):
+    if len(numbers) == 0:
+        return [number]
+    return [numbers[0] + number] + numbers[1:]
+
+
+def slope_of(numbers):
+    return [power * number for power, number in enumerate(numbers) if power > 0]
+
+
 # Every power of the prime divides 0: whoever asks leaves it out, or this would never end.
 def times_divided(number, prime):
     rest = number
@@ -65,3 +94,30 @@ def roots_of_powers(numbers, prime, k):
         power = power * prime
         lists.append(roots)
     return lists
+
+
+def is_simple_root(numbers, prime, x):
+    return is_root(numbers, prime, x) and value_for(slope_of(numbers), x) % prime != 0
+
+
+def simple_roots(numbers, prime):
+    return [x for x in range(prime) if is_simple_root(numbers, prime, x)]
+
+
+# Only for a simple root: it goes on to just one root each time.
+def lifted(numbers, prime, x, times):
+    root = x
+    power = prime
+    for step in range(times):
+        root = roots_gone_on_to(numbers, prime, power, root)[0]
+        power = power * prime
+    return root
+
+
+def digits_of(number, prime, many):
+    rest = number
+    digits = []
+    for step in range(many):
+        digits.append(rest % prime)
+        rest = rest // prime
+    return digits

@@ -1,4 +1,8 @@
-"""Calls written out for the tests, their answers cut apart, and roots found by trying every number."""
+"""Calls written out for the tests, their answers cut apart, and answers found in other ways than the program's."""
+
+from fractions import Fraction
+from itertools import groupby
+from math import comb
 
 from liftedroots.lifting import answers
 
@@ -42,6 +46,34 @@ def counts(k):
     return [6, k]
 
 
+def lift(x, n):
+    return [7, x, n]
+
+
+def slopes():
+    return [8]
+
+
+def raw_times(*numbers):
+    return [9, len(numbers), *numbers]
+
+
+def times(*numbers):
+    return raw_times(*[handed(number) for number in numbers])
+
+
+def move(z):
+    return [10, handed(z)]
+
+
+def shown():
+    return [11]
+
+
+def simple():
+    return [12]
+
+
 def joined(calls):
     return [number for call in calls for number in call]
 
@@ -75,6 +107,49 @@ def tried_value(numbers, x):
 
 def tried_roots(numbers, power):
     return [x for x in range(power) if tried_value(numbers, x) % power == 0]
+
+
+def tried_product(one, other):
+    """Number by number of the product: the pairs whose powers are together its power."""
+    if not one or not other:
+        return []
+    return [sum(one[i] * other[k - i] for i in range(len(one)) if 0 <= k - i < len(other))
+            for k in range(len(one) + len(other) - 1)]
+
+
+def tried_moved(numbers, z):
+    """By the binomial theorem: (x + z)^k has comb(k, i) z^(k - i) of the power i."""
+    return [sum(numbers[k] * comb(k, i) * z ** (k - i) for k in range(i, len(numbers))) for i in range(len(numbers))]
+
+
+def tried_slope_value(numbers, x):
+    return sum(i * numbers[i] * x ** (i - 1) for i in range(1, len(numbers)))
+
+
+def tried_simple_roots(numbers, p):
+    return [x for x in tried_roots(numbers, p) if tried_slope_value(numbers, x) % p]
+
+
+def tried_val(number, p):
+    return max(k for k in range(number.bit_length() + 1) if number % p ** k == 0)
+
+
+def height(points, i):
+    """How high the lowest line between two of the points lies at i."""
+    return min(Fraction(a[1]) if a[0] == b[0] else a[1] + Fraction((b[1] - a[1]) * (i - a[0]), b[0] - a[0])
+               for a in points for b in points if a[0] <= i <= b[0] and (a[0] < b[0] or a[0] == i))
+
+
+def tried_slopes(numbers, p):
+    """By the lowest height at each power: steps of the same rise one behind another are one way."""
+    points = [(i, tried_val(number, p)) for i, number in enumerate(numbers) if number]
+    heights = [height(points, i) for i in range(points[0][0], points[-1][0] + 1)]
+    steps = [behind - ahead for ahead, behind in zip(heights, heights[1:])]
+    return [(rise, len(list(group))) for rise, group in groupby(steps)]
+
+
+def told_slopes(ways):
+    return [len(ways), *[part for rise, far in ways for part in (rise.numerator, rise.denominator, far)]]
 
 
 def with_count(numbers):

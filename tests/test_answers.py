@@ -1,7 +1,8 @@
 import unittest
 
 from liftedroots.lifting import UnknownCall, answers
-from tests.helper import ask, counts, goes_on, joined, poly, prime, raw_poly, roots, val, value
+from tests.helper import (ask, counts, goes_on, joined, lift, move, poly, prime, raw_poly, raw_times, roots, shown,
+                          simple, slopes, times, val, value)
 
 
 class Untouchable(list):
@@ -14,11 +15,18 @@ class Untouchable(list):
     append = clear = extend = insert = pop = remove = reverse = sort = refuse
 
 
-EVERY_CALL = (poly(1, 0, 1, 0), prime(5), value(-3), val(50), roots(2), goes_on(1, 3), counts(3))
-EVERY_ANSWER = [[3, 1, 0, 1], [0], [0, 10], [2], [2, 7, 18], [1, 18], [2, 2, 2]]
+EVERY_CALL = (
+    poly(1, 0, 1, 0), prime(5), value(-3), val(50), roots(2), goes_on(1, 3), counts(3), lift(2, 1), slopes(),
+    times(5, -1), move(2), shown(), simple(),
+)
+EVERY_ANSWER = [
+    [3, 1, 0, 1], [0], [0, 10], [2], [2, 7, 18], [1, 18], [2, 2, 2], [7, 2, 1], [1, 0, 1, 2],
+    [4, 5, -1, 5, -1], [4, 15, 7, -1, -1], [4, 15, 7, -1, -1], [3, 0, 1, 3],
+]
+# Each of them is refused wherever it stands among the calls above.
 REFUSED = (
-    raw_poly(2001), poly(1, 1, 1, 1, 1, 1), prime(9), val(0), roots(0), roots(15), goes_on(14, 0), goes_on(1, 1),
-    counts(6),
+    raw_poly(2001), poly(1, 1, 1, 1, 1, 1), prime(9), val(0), roots(0), roots(15), goes_on(14, 0), goes_on(1, 4),
+    counts(6), lift(2, 21), lift(5, 0), lift(4, 20), raw_times(2001), times(0, 0, 0, 0, 0, 0), [10, 201],
 )
 
 
@@ -36,6 +44,19 @@ class FormTest(unittest.TestCase):
         self.assertEqual(answers([4, 3]), [2, 1, 0])
         self.assertEqual(answers([5, 3, 0]), [2, 1, 0])
         self.assertEqual(answers([6, 3]), [3, 1, 1, 1])
+        self.assertEqual(answers([7, 0, 2]), [4, 0, 0, 0, 0])
+        self.assertEqual(answers([8]), [1, 0])
+        self.assertEqual(answers([9, 0]), [1, 0])
+        self.assertEqual(answers([9, 2, 3, 4]), [4, 3, 0, -2, 2])
+        self.assertEqual(answers([10, 3]), [3, 2, -2, 1])
+        self.assertEqual(answers([11]), [3, 2, 0, 1])
+        self.assertEqual(answers([12]), [2, 1, 0])
+
+    def test_slopes_in_a_list(self):
+        self.assertEqual(answers([0, 3, 4, 0, 2, 8, 8]), [4, 3, 2, 0, 1, 4, 1, -1, 2, 2, 4, 1, -1, 2, 2])
+
+    def test_calls_that_are_handed_nothing_behind_one_another(self):
+        self.assertEqual(answers([8, 11, 12, 12, 11, 8]), [1, 0, 3, 2, 0, 1, 2, 1, 0, 2, 1, 0, 3, 2, 0, 1, 1, 0])
 
     def test_a_refusal_is_its_number_alone(self):
         self.assertEqual(answers([0, 1, 2001]), [1, -1])
@@ -45,6 +66,13 @@ class FormTest(unittest.TestCase):
         self.assertEqual(answers([5, 0, 0]), [1, -1])
         self.assertEqual(answers([5, 1, 1]), [1, -3])
         self.assertEqual(answers([6, 0]), [1, -1])
+        self.assertEqual(answers([7, 0, 21]), [1, -1])
+        self.assertEqual(answers([7, 1, 0]), [1, -6])
+        self.assertEqual(answers([0, 0, 8]), [1, 0, 1, -3])
+        self.assertEqual(answers([9, 1, 2001]), [1, -1])
+        self.assertEqual(answers([10, 201]), [1, -1])
+        full = [0, 5, 0, 0, 0, 0, 2, 9, 5, 0, 0, 0, 0, 2]
+        self.assertEqual(answers(full + [9, 2, 0, 2])[-2:], [1, -5])
 
     def test_whole_numbers_in_a_list(self):
         told = answers(joined(EVERY_CALL + REFUSED))
@@ -70,12 +98,22 @@ class SeveralCallsTest(unittest.TestCase):
             self.assertEqual({len(part) for part in told[2::2]}, {1}, refused)
             self.assertTrue(all(part[0] < 0 for part in told[2::2]), refused)
 
+    def test_all_is_as_it_was_behind_the_refusals_of_times_and_of_the_polynomial_0(self):
+        nine = (prime(3), poly(0, 0, 0, 0, 1), times(2, 0, 0, 0, 1))
+        told = ask(*nine, times(0, 1), shown(), val(9), slopes(), times(0, 0, 0, 1), shown(), val(9), slopes())
+        as_it_was = [[9, 0, 0, 0, 0, 2, 0, 0, 0, 1], [2], [1, 0, 1, 4]]
+        self.assertEqual(told[3:], [[-5], *as_it_was, [-5], *as_it_was])
+        told = ask(prime(3), poly(), slopes(), shown(), val(9), lift(0, 0), shown(), val(9))
+        self.assertEqual(told[2:], [[-3], [0], [2], [-6], [0], [2]])
+
     def test_a_refused_row_is_passed_over_whole(self):
         # The row's own numbers would be calls, if they were read as such.
         self.assertEqual(ask(raw_poly(1, 3, 1, 3, 1, 3, 1, 3, 1, 3, 1, 3), value(4)), [[-1], [0, 4]])
+        self.assertEqual(ask(raw_times(1, 3, 1, 3, 1, 3, 1, 3, 1, 3, 1, 3), value(4)), [[-1], [0, 4]])
 
     def test_thirty_calls_of_420_numbers(self):
         self.assertEqual(answers(joined([poly(*[1] * 12)] * 30)), [1, -1] * 30)
+        self.assertEqual(answers(joined([times(*[1] * 12)] * 30)), [1, -1] * 30)
 
     def test_thirty_calls_with_the_most_roots(self):
         told = ask(poly(), *[roots(12)] * 29)
@@ -100,10 +138,13 @@ class NothingKeptTest(unittest.TestCase):
     def test_each_time_as_if_for_the_first_time(self):
         answers(joined([poly(1, 2, 3), prime(7)]))
         self.assertEqual(ask(value(9), val(8), roots(2)), [[0, 9], [3], [1, 0]])
+        answers(joined([times(1, 2, 3), move(7)]))
+        self.assertEqual(ask(shown(), simple(), slopes()), [[2, 0, 1], [1, 0], [0]])
 
     def test_answers_are_no_part_of_what_is_kept(self):
-        answers([0, 2, 2, 2]).clear()
-        self.assertEqual(answers([0, 2, 2, 2]), [3, 2, 1, 1])
+        for calls, told in (([0, 2, 2, 2], [3, 2, 1, 1]), ([11], [3, 2, 0, 1]), ([10, 2], [3, 2, 1, 1])):
+            answers(calls).clear()
+            self.assertEqual(answers(calls), told)
 
 
 if __name__ == "__main__":
